@@ -1,0 +1,1 @@
+"""Things that cost more the more use them."""
